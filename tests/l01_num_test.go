@@ -33,6 +33,25 @@ func everyString(alphabet string, length int, visit func(string)) {
 	}
 }
 
+// everyNearString calls visit with s, with its beginnings and ends, and with s changed in one place in all ways.
+func everyNearString(s string, visit func(string)) {
+	visit(s)
+	for i := range len(s) + 1 {
+		visit(s[:i])
+		for b := range 256 {
+			inserted := string([]byte{byte(b)})
+			visit(s[:i] + inserted + s[i:])
+			if i < len(s) {
+				visit(s[:i] + inserted + s[i+1:])
+			}
+		}
+		if i < len(s) {
+			visit(s[:i] + s[i+1:])
+			visit(s[i:])
+		}
+	}
+}
+
 func everyByte() string {
 	b := make([]byte, 256)
 	for i := range b {

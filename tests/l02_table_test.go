@@ -438,21 +438,7 @@ func TestParseTableNearFormats(t *testing.T) {
 		"aa aab ab\n-1 -10 -100\n",
 		impl.FormatTable(table(column("a", repeated(64, 7)...))),
 	} {
-		checkParseTable(t, s)
-		for i := range len(s) + 1 {
-			checkParseTable(t, s[:i])
-			for b := range 256 {
-				inserted := string([]byte{byte(b)})
-				checkParseTable(t, s[:i]+inserted+s[i:])
-				if i < len(s) {
-					checkParseTable(t, s[:i]+inserted+s[i+1:])
-				}
-			}
-			if i < len(s) {
-				checkParseTable(t, s[:i]+s[i+1:])
-				checkParseTable(t, s[i:])
-			}
-		}
+		everyNearString(s, func(near string) { checkParseTable(t, near) })
 	}
 }
 
