@@ -689,12 +689,14 @@ func selected(c impl.Cracker) ([]impl.Cracker, [][]int) {
 	return columns, append(lists, impl.SortInts(c.Values), impl.SortInts(c.Rows))
 }
 
-func TestSelectionArgumentsStay(t *testing.T) {
+// checkArgumentsStay asks whether a column stays when all is performed with it, and when all answers are overwritten.
+func checkArgumentsStay(t *testing.T, all func(impl.Cracker) ([]impl.Cracker, [][]int)) {
+	t.Helper()
 	for _, columns := range []map[string]impl.Cracker{validColumns, invalidColumns} {
-		for name, plain := range columns {
-			c := columnWithSpare(plain)
+		for name, given := range columns {
+			c := columnWithSpare(given)
 			before := wholeColumn(c)
-			got, lists := selected(c)
+			got, lists := all(c)
 			if !reflect.DeepEqual(wholeColumn(c), before) {
 				t.Errorf("%s: the column has become %v, it was %v", name, wholeColumn(c), before)
 			}
@@ -711,16 +713,26 @@ func TestSelectionArgumentsStay(t *testing.T) {
 	}
 }
 
-func TestSelectionsAreNewMemory(t *testing.T) {
+// checkNewMemory overwrites the column, and then list by list of the answers, and asks whether those that follow stay.
+func checkNewMemory(t *testing.T, all func(impl.Cracker) ([]impl.Cracker, [][]int)) {
+	t.Helper()
 	for _, columns := range []map[string]impl.Cracker{validColumns, invalidColumns} {
-		for name, plain := range columns {
-			c := columnWithSpare(plain)
-			want, wantLists := selected(plain)
-			got, lists := selected(c)
+		for name, given := range columns {
+			c := columnWithSpare(given)
+			want, wantLists := all(given)
+			got, lists := all(c)
 			fillColumn(c)
 			for i, x := range got {
 				if !impl.EqualCrackers(x, want[i]) {
 					t.Errorf("%s: after a change of the column and of other answers, an answer is %v, want %v", name, x, want[i])
+				}
+				fill(x.Values, 123)
+				if !slices.Equal(x.Rows, want[i].Rows) {
+					t.Errorf("%s: after a change of the values, the rows are %d", name, x.Rows)
+				}
+				fill(x.Rows, 456)
+				if !slices.Equal(x.Values, repeated(len(x.Values), 123)) || !slices.Equal(x.Pivots, want[i].Pivots) {
+					t.Errorf("%s: after a change of the rows, the column is %v", name, x)
 				}
 				fillColumn(x)
 			}
@@ -733,6 +745,10 @@ func TestSelectionsAreNewMemory(t *testing.T) {
 		}
 	}
 }
+
+func TestSelectionArgumentsStay(t *testing.T) { checkArgumentsStay(t, selected) }
+
+func TestSelectionsAreNewMemory(t *testing.T) { checkNewMemory(t, selected) }
 
 // TestSelectionListsAreApart changes one list of an answer at a time.
 func TestSelectionListsAreApart(t *testing.T) {
