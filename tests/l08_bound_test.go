@@ -550,21 +550,26 @@ func replaced(l []int, place, n int) []int {
 	return l
 }
 
-func TestQueriesThatAreNotValid(t *testing.T) {
-	values := map[string][]int{
+// queryValues and queryRanges are at the limits of what is valid, noQueryValues beyond them.
+var (
+	queryValues = map[string][]int{
 		"no values": nil, "an empty list": {}, "one value": {7}, "eight values": eight, "63 values": spread(63), "64 values": spread(64),
 		"64 equal values": repeated(64, 7), "the limits": {999, -999}, "64 limits": repeated(64, -999),
 	}
-	noValues := map[string][]int{
+	noQueryValues = map[string][]int{
 		"65 values": upTo(65), "65 equal values": repeated(65, 7), "1000 values": repeated(1000, 7),
 		"a value of 1000": {1000}, "a value of -1000": {-1000}, "the greatest int": {math.MaxInt}, "the least int": {math.MinInt},
 		"a first value of 1000": replaced(eight, 0, 1000), "a middle value of -1000": replaced(eight, 4, -1000), "a last value of 1000": replaced(eight, 7, 1000),
 		"64 values, the last one of 1000": replaced(upTo(64), 63, 1000), "65 values, the last one of 1000": replaced(upTo(65), 64, 1000),
 	}
-	ranges := map[string][]impl.Range{
+	queryRanges = map[string][]impl.Range{
 		"no ranges": nil, "an empty list": {}, "one range": spans(3, 8), "29 ranges": pairs()[1:], "30 ranges": pairs(), "30 nested ranges": nested(),
 		"30 empty ranges": make([]impl.Range, 30), "the limits": spans(-1000, 1000, -1000, -1000, 1000, 1000),
 	}
+)
+
+// everyInvalidRun calls visit with values, settings and ranges of which at least one is not valid.
+func everyInvalidRun(visit func(name string, values []int, s impl.Settings, ranges []impl.Range)) {
 	noRanges := map[string][]impl.Range{
 		"31 ranges": append(pairs(), span(3, 8)), "31 empty ranges": make([]impl.Range, 31), "1000 ranges": make([]impl.Range, 1000),
 		"31 ranges, one not valid": append(pairs(), span(8, 3)),
@@ -577,30 +582,40 @@ func TestQueriesThatAreNotValid(t *testing.T) {
 			noRanges[what+", "+where] = l
 		}
 	}
-	for valuesName, v := range values {
-		for rangesName, l := range ranges {
-			for settingsName, s := range validSettings {
-				if !impl.IsWithinBound(v, s, l) || !areQueries(v, s, l) {
-					t.Errorf("%s, %s, %s: IsWithinBound(%d, %v, %v) = false", valuesName, settingsName, rangesName, v, s, l)
-				}
-			}
+	for valuesName, v := range queryValues {
+		for rangesName, l := range queryRanges {
 			for settingsName, s := range invalidSettings {
-				checkNoQueries(t, valuesName+", "+settingsName+", "+rangesName, v, s, l)
+				visit(valuesName+", "+settingsName+", "+rangesName, v, s, l)
 			}
 		}
 		for rangesName, l := range noRanges {
 			for _, s := range append([]impl.Settings{{}}, sweptSettings...) {
-				checkNoQueries(t, valuesName+", "+rangesName, v, s, l)
+				visit(valuesName+", "+rangesName, v, s, l)
 			}
 		}
 	}
-	for valuesName, v := range noValues {
+	for valuesName, v := range noQueryValues {
 		for _, s := range append([]impl.Settings{{}}, sweptSettings...) {
-			for rangesName, l := range ranges {
-				checkNoQueries(t, valuesName+", "+rangesName, v, s, l)
+			for rangesName, l := range queryRanges {
+				visit(valuesName+", "+rangesName, v, s, l)
 			}
 			for rangesName, l := range noRanges {
-				checkNoQueries(t, valuesName+", "+rangesName, v, s, l)
+				visit(valuesName+", "+rangesName, v, s, l)
+			}
+		}
+	}
+}
+
+func TestQueriesThatAreNotValid(t *testing.T) {
+	everyInvalidRun(func(name string, values []int, s impl.Settings, ranges []impl.Range) {
+		checkNoQueries(t, name, values, s, ranges)
+	})
+	for valuesName, v := range queryValues {
+		for rangesName, l := range queryRanges {
+			for settingsName, s := range validSettings {
+				if !impl.IsWithinBound(v, s, l) || !areQueries(v, s, l) {
+					t.Errorf("%s, %s, %s: IsWithinBound(%d, %v, %v) = false", valuesName, settingsName, rangesName, v, s, l)
+				}
 			}
 		}
 	}
@@ -688,13 +703,20 @@ func TestQueriesOfEverySmallColumn(t *testing.T) {
 	})
 }
 
-func TestQueriesInEveryOrder(t *testing.T) {
+// everyOrderOfSpans calls visit with five ranges, which overlap or touch, in all of their orders.
+func everyOrderOfSpans(visit func([]impl.Range)) {
 	ranges := spans(3, 8, 2, 5, -1000, 1000, 5, 5, 8, 9)
 	everyOrder(upTo(len(ranges)), func(order []int) {
 		var l []impl.Range
 		for _, i := range order {
 			l = append(l, ranges[i])
 		}
+		visit(l)
+	})
+}
+
+func TestQueriesInEveryOrder(t *testing.T) {
+	everyOrderOfSpans(func(l []impl.Range) {
 		for _, s := range sweptSettings {
 			for _, values := range [][]int{eight, repeated(5, 5), nil} {
 				once := checkRunQueries(t, values, s, l)
